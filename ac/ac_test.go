@@ -8,6 +8,7 @@ import (
 	"testing"
 
 	"tollgate/api"
+	"tollgate/byhand"
 	"tollgate/cookie"
 )
 
@@ -23,33 +24,15 @@ const secret = "s"
 // card tells a subscriber's card; none of them is own.
 func card(n int) api.Mac { return api.Mac{6, 0, 0, byte(n >> 16), byte(n >> 8), byte(n)} }
 
-// word lays a number into two bytes, by another hand than the program's.
-func word(v int) string { return string([]byte{byte(v / 256), byte(v % 256)}) }
-
-func packet(code, session int, data string) string {
-	return "\x11" + string([]byte{byte(code)}) + word(session) + word(len(data)) + data
-}
-
-func laid(tags []api.Tag) string {
-	out := ""
-	for _, t := range tags {
-		out += word(t.Type) + word(len(t.Value)) + t.Value
-	}
-	return out
-}
-
-func disc(dst, src api.Mac, code, session int, tags ...api.Tag) api.Ether {
-	return api.Ether{Dst: dst, Src: src, Type: api.TypeDisc, Data: packet(code, session, laid(tags))}
-}
-
-func talk(dst, src api.Mac, session int, data string) api.Ether {
-	return api.Ether{Dst: dst, Src: src, Type: api.TypeSession, Data: packet(0, session, data)}
-}
-
-func name(v string) api.Tag    { return api.Tag{Type: api.TagAc, Value: v} }
-func service(v string) api.Tag { return api.Tag{Type: api.TagService, Value: v} }
-func uniq(v string) api.Tag    { return api.Tag{Type: api.TagUniq, Value: v} }
-func proof(v string) api.Tag   { return api.Tag{Type: api.TagCookie, Value: v} }
+var (
+	packet  = byhand.Packet
+	disc    = byhand.Disc
+	talk    = byhand.Talk
+	name    = byhand.Name
+	service = byhand.Service
+	uniq    = byhand.Uniq
+	proof   = byhand.Cookie
+)
 
 // baked tells the cookie that is good for a card and a service at a time.
 func baked(m api.Mac, what string, time int) api.Tag {
@@ -224,29 +207,22 @@ func TestP703DataOfNoSession(t *testing.T) {
 	c := conc(t, 4)
 	one, two := ask(t, c, card(1), "u", 1), ask(t, c, card(2), "v", 2)
 	good := func() api.Ether { return talk(own, card(1), 1, "ppp") }
+	for _, x := range byhand.NoSession() {
+		if id, b, ok := c.Data(x.Make(good())); id != (Id{}) || b != "" || ok {
+			t.Errorf("%s: Data = %v, %q, %v", x.What, id, b, ok)
+		}
+	}
 	for what, change := range map[string]func(*api.Ether){
-		"another Type":             func(f *api.Ether) { f.Type = api.TypeDisc },
-		"a Type of 0":              func(f *api.Ether) { f.Type = 0 },
-		"a Type with higher bits":  func(f *api.Ether) { f.Type += 65536 },
-		"another Dst":              func(f *api.Ether) { f.Dst[5]++ },
-		"to everyone":              func(f *api.Ether) { f.Dst = all },
-		"to itself":                func(f *api.Ether) { f.Dst = f.Src },
-		"another card":             func(f *api.Ether) { f.Src = card(3) },
-		"a card with a session":    func(f *api.Ether) { f.Src = card(2) },
-		"from the concentrator":    func(f *api.Ether) { f.Src = own },
-		"another card's session":   func(f *api.Ether) { f.Data = packet(0, 2, "ppp") },
-		"a session that is none":   func(f *api.Ether) { f.Data = packet(0, 3, "ppp") },
-		"session 0":                func(f *api.Ether) { f.Data = packet(0, 0, "ppp") },
-		"session 65535":            func(f *api.Ether) { f.Data = packet(0, 65535, "ppp") },
-		"code 1":                   func(f *api.Ether) { f.Data = packet(1, 1, "ppp") },
-		"a Padi":                   func(f *api.Ether) { f.Data = packet(api.Padi, 1, "ppp") },
-		"a Padt":                   func(f *api.Ether) { f.Data = packet(api.Padt, 1, "") },
-		"code 255":                 func(f *api.Ether) { f.Data = packet(255, 1, "ppp") },
-		"nothing":                  func(f *api.Ether) { f.Data = "" },
-		"less than a head":         func(f *api.Ether) { f.Data = f.Data[:5] },
-		"fewer bytes than it says": func(f *api.Ether) { f.Data = f.Data[:len(f.Data)-1] },
-		"another version":          func(f *api.Ether) { f.Data = "\x21" + f.Data[1:] },
-		"more than fits":           func(f *api.Ether) { f.Data = packet(0, 1, strings.Repeat("d", 1495)) },
+		"another Dst":            func(f *api.Ether) { f.Dst[5]++ },
+		"to everyone":            func(f *api.Ether) { f.Dst = all },
+		"to itself":              func(f *api.Ether) { f.Dst = f.Src },
+		"another card":           func(f *api.Ether) { f.Src = card(3) },
+		"a card with a session":  func(f *api.Ether) { f.Src = card(2) },
+		"from the concentrator":  func(f *api.Ether) { f.Src = own },
+		"another card's session": func(f *api.Ether) { f.Data = packet(0, 2, "ppp") },
+		"a session that is none": func(f *api.Ether) { f.Data = packet(0, 3, "ppp") },
+		"session 0":              func(f *api.Ether) { f.Data = packet(0, 0, "ppp") },
+		"session 65535":          func(f *api.Ether) { f.Data = packet(0, 65535, "ppp") },
 	} {
 		f := good()
 		change(&f)

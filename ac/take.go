@@ -5,27 +5,21 @@ import (
 
 	"tollgate/api"
 	"tollgate/cookie"
+	"tollgate/ether"
 	"tollgate/tag"
 )
 
-// everyone is the card that a Padi goes to: who asks knows no concentrator yet.
-var everyone = api.Mac{255, 255, 255, 255, 255, 255}
-
 // Take takes a frame; what is sent.
 func (c *Conc) Take(f api.Ether, time int) []api.Ether {
-	if c.isNone() || f.Type != api.TypeDisc || f.Src == c.mac {
+	if c.isNone() || f.Src == c.mac {
 		return nil
 	}
-	d, err := tag.Get(f.Data)
-	if err != api.OK {
-		return nil
-	}
-	asked, err := tag.GetTags(d.Data)
-	if err != api.OK {
+	d, asked, ok := ether.GetDisc(f)
+	if !ok {
 		return nil
 	}
 	switch {
-	case d.Code == api.Padi && f.Dst == everyone && d.Session == 0:
+	case d.Code == api.Padi && f.Dst == ether.Everyone() && d.Session == 0:
 		return c.offer(f.Src, asked, time)
 	case d.Code == api.Padr && f.Dst == c.mac && d.Session == 0:
 		return c.grant(f.Src, asked, time)
@@ -48,7 +42,7 @@ func (c *Conc) offer(to api.Mac, asked []api.Tag, time int) []api.Ether {
 		}
 	}
 	tags = append(tags, api.Tag{Type: api.TagCookie, Value: cookie.Make(c.secret, to, service, time)})
-	return c.send(to, api.Pado, 0, append(tags, echo(asked)...))
+	return ether.Disc(to, c.mac, api.Pado, 0, append(tags, echo(asked)...))
 }
 
 // grant answers a Padr.
@@ -64,7 +58,7 @@ func (c *Conc) grant(to api.Mac, asked []api.Tag, time int) []api.Ether {
 	if session == 0 {
 		tags = append(tags, api.Tag{Type: why})
 	}
-	return c.send(to, api.Pads, session, append(tags, echo(asked)...))
+	return ether.Disc(to, c.mac, api.Pads, session, append(tags, echo(asked)...))
 }
 
 // admit tells the number of the session that a card has or gets, or 0, and the tag that says why.
@@ -94,26 +88,4 @@ func echo(asked []api.Tag) []api.Tag {
 		return nil
 	}
 	return []api.Tag{{Type: api.TagUniq, Value: uniq}}
-}
-
-// send tells a frame of discovery; none, if the packet can't hold the tags.
-func (c *Conc) send(to api.Mac, code, session int, tags []api.Tag) []api.Ether {
-	data, err := tag.PutTags(tags)
-	if err != api.OK {
-		return nil
-	}
-	f, err := c.frame(to, api.TypeDisc, api.Disc{Code: code, Session: session, Data: data})
-	if err != api.OK {
-		return nil
-	}
-	return []api.Ether{f}
-}
-
-// frame tells the frame of a packet.
-func (c *Conc) frame(to api.Mac, kind int, d api.Disc) (api.Ether, api.Errno) {
-	data, err := tag.Put(d)
-	if err != api.OK {
-		return api.Ether{}, err
-	}
-	return api.Ether{Dst: to, Src: c.mac, Type: kind, Data: data}, api.OK
 }

@@ -7,6 +7,7 @@ import (
 	"testing"
 
 	"tollgate/api"
+	"tollgate/byhand"
 	"tollgate/cookie"
 )
 
@@ -36,30 +37,11 @@ func bothWays(c *Conc) map[string]struct{ f, want api.Ether } {
 }
 
 func TestP702NothingOfWhatIsNoDiscovery(t *testing.T) {
-	for what, change := range map[string]func(*api.Ether){
-		"a session's Type":         func(f *api.Ether) { f.Type = api.TypeSession },
-		"a Type of 0":              func(f *api.Ether) { f.Type = 0 },
-		"a Type one more":          func(f *api.Ether) { f.Type += 2 },
-		"a Type with higher bits":  func(f *api.Ether) { f.Type += 65536 },
-		"a Type below 0":           func(f *api.Ether) { f.Type = -f.Type },
-		"from the card itself":     func(f *api.Ether) { f.Src = own },
-		"no Data":                  func(f *api.Ether) { f.Data = "" },
-		"less than a head":         func(f *api.Ether) { f.Data = f.Data[:5] },
-		"a head alone":             func(f *api.Ether) { f.Data = f.Data[:6] },
-		"fewer bytes than it says": func(f *api.Ether) { f.Data = f.Data[:len(f.Data)-1] },
-		"another version":          func(f *api.Ether) { f.Data = "\x12" + f.Data[1:] },
-		"a byte that is no tag":    func(f *api.Ether) { f.Data = behind(f.Data, "\x01") },
-		"a tag without a length":   func(f *api.Ether) { f.Data = behind(f.Data, "\x01\x03\x00") },
-		"a tag cut off":            func(f *api.Ether) { f.Data = behind(f.Data, "\x01\x03\x00\x02u") },
-		"more tags than may be":    func(f *api.Ether) { f.Data = behind(f.Data, strings.Repeat("\x01\x05\x00\x00", 20)) },
-		"more bytes than may be":   func(f *api.Ether) { f.Data = behind(f.Data, "\x01\x05\x05\xff"+strings.Repeat("x", 1535)) },
-	} {
+	for _, change := range byhand.NoDisc() {
 		c := conc(t, 2)
 		for kind, x := range bothWays(c) {
-			f := x.f
-			change(&f)
-			if got := c.Take(f, 0); len(got) != 0 {
-				t.Errorf("%s, %s: %x is sent", kind, what, got)
+			if got := c.Take(change.Make(x.f), 0); len(got) != 0 {
+				t.Errorf("%s, %s: %x is sent", kind, change.What, got)
 			}
 			live(t, c)
 		}
@@ -67,12 +49,6 @@ func TestP702NothingOfWhatIsNoDiscovery(t *testing.T) {
 			sent(t, c.Take(x.f, 0), x.want)
 		}
 	}
-}
-
-// behind lays more bytes behind the tags of a packet, and counts them in.
-func behind(b, more string) string {
-	data := b[6:] + more
-	return b[:4] + word(len(data)) + data
 }
 
 // A frame from the card itself could have a cookie that is good for it.
@@ -85,14 +61,10 @@ func TestP702NothingFromTheCardItself(t *testing.T) {
 }
 
 func TestP702FillingAndWhatIsBehindTheEnd(t *testing.T) {
-	for _, end := range []string{"", "\x00\x00", "\x00\x00\x00\x00", "\x00\x00\x01\x01\x00\x00", "\x00\x00\x01"} {
-		for _, filling := range []string{"", "\x01", strings.Repeat("\x00", 40), strings.Repeat("f", 2000)} {
-			c := conc(t, 2)
-			for _, x := range bothWays(c) {
-				f := x.f
-				f.Data = behind(f.Data, end) + filling
-				sent(t, c.Take(f, 0), x.want)
-			}
+	for _, change := range byhand.Filled() {
+		c := conc(t, 2)
+		for _, x := range bothWays(c) {
+			sent(t, c.Take(change.Make(x.f), 0), x.want)
 		}
 	}
 }
@@ -520,17 +492,9 @@ func TestP702PadtThatIsNone(t *testing.T) {
 	c := conc(t, 60)
 	id := ask(t, c, card(1), "u", 1)
 	good := disc(own, card(1), api.Padt, 1)
-	for what, change := range map[string]func(*api.Ether){
-		"a session's Type":      func(f *api.Ether) { f.Type = api.TypeSession },
-		"another version":       func(f *api.Ether) { f.Data = "\x12" + f.Data[1:] },
-		"cut off":               func(f *api.Ether) { f.Data = f.Data[:5] },
-		"a byte that is no tag": func(f *api.Ether) { f.Data = behind(f.Data, "\x01") },
-		"too many tags":         func(f *api.Ether) { f.Data = behind(f.Data, strings.Repeat("\x01\x05\x00\x00", 21)) },
-	} {
-		f := good
-		change(&f)
-		if got := c.Take(f, 0); len(got) != 0 || len(c.Live()) != 1 {
-			t.Errorf("%s: %x is sent, %v are live", what, got, c.Live())
+	for _, change := range byhand.NoDisc() {
+		if got := c.Take(change.Make(good), 0); len(got) != 0 || len(c.Live()) != 1 {
+			t.Errorf("%s: %x is sent, %v are live", change.What, got, c.Live())
 		}
 	}
 	live(t, c, Session{id, "u", false})
