@@ -1,0 +1,205 @@
+package neg
+
+import (
+	"math/rand/v2"
+	"slices"
+	"testing"
+
+	"tollgate/api"
+)
+
+// P1106: what follows from the others.
+
+// pair is two ends, and what is on its way to each of them.
+type pair struct {
+	ends [2]*Neg
+	ways [2][]api.Packet
+}
+
+// send lays packets on the way from an end to the other one.
+func (p *pair) send(from int, l []api.Packet) { p.ways[1-from] = append(p.ways[1-from], l...) }
+
+func (p *pair) do(event int) {
+	for i, n := range p.ends {
+		p.send(i, n.Do(event))
+	}
+}
+
+// deliver hands the first packet on the way to an end over to it; false, if there is none.
+func (p *pair) deliver(to int) bool {
+	if len(p.ways[to]) == 0 {
+		return false
+	}
+	first := p.ways[to][0]
+	p.ways[to] = p.ways[to][1:]
+	p.send(to, p.ends[to].Take(first))
+	return true
+}
+
+// settle delivers all that is on its way, and what that brings about.
+func (p *pair) settle(t *testing.T) {
+	t.Helper()
+	for range 1000 {
+		if !p.deliver(0) && !p.deliver(1) {
+			return
+		}
+	}
+	t.Fatalf("they never end: %v", p.ways)
+}
+
+func (p *pair) isQuiet() bool { return len(p.ways[0])+len(p.ways[1]) == 0 }
+
+func (p *pair) areOpened() bool {
+	return p.ends[0].State() == api.Opened && p.ends[1].State() == api.Opened
+}
+
+// agree holds that what is mine at the one is theirs at the other, if both are Opened and all that was sent came.
+func (p *pair) agree(t *testing.T) {
+	t.Helper()
+	if !p.isQuiet() || !p.areOpened() {
+		return
+	}
+	for i, n := range p.ends {
+		if mine, theirs := n.Mine(), p.ends[1-i].Theirs(); !slices.Equal(mine, theirs) {
+			t.Fatalf("mine at %d is %v, theirs at the other is %v", i, mine, theirs)
+		}
+	}
+}
+
+func TestP1106TwoEnds(t *testing.T) {
+	a := setup()
+	a.Peer = append(a.Peer, api.Rule{Type: 5, Len: 2, Min: 0, Max: 100, Suggest: "\x00\x09"}, api.Rule{Type: 9, Len: 1, Min: 'a', Max: 'y', Suggest: "b"})
+	p := pair{ends: [2]*Neg{made(t, a), made(t, a)}}
+	p.do(api.Open)
+	p.do(api.Up)
+	p.settle(t)
+	if !p.areOpened() {
+		t.Fatalf("they are %s and %s", states[p.ends[0].State()], states[p.ends[1].State()])
+	}
+	p.agree(t)
+	want := []api.Option{opt(1, "\x04\x00"), opt(5, "\x00\x09"), opt(9, "b")} // 7 was rejected
+	for i, n := range p.ends {
+		has(t, "agreed", n, want, want)
+		came(t, "agreed", p.ends[i], 1, 0)
+	}
+}
+
+// Any two ends, whose packets come in order, in each direction by itself, with ticks between.
+func TestP1106AnyTwoEnds(t *testing.T) {
+	r := chance{rand.New(rand.NewPCG(11, 7))}
+	opened := 0
+	for range 4000 {
+		p := pair{}
+		for i := range p.ends {
+			p.ends[i] = made(t, r.setup())
+		}
+		p.do(api.Open)
+		p.do(api.Up)
+		for range 150 {
+			switch k := r.IntN(40); {
+			case k < 36:
+				p.deliver(r.IntN(2))
+			case k < 39:
+				i := r.IntN(2)
+				p.send(i, p.ends[i].Tick())
+			case r.IntN(8) == 0: // one of them begins again
+				i := r.IntN(2)
+				p.send(i, p.ends[i].Take(bare(api.TermAck, 0, "")))
+			}
+			p.agree(t)
+		}
+		for range 400 {
+			if !p.deliver(r.IntN(2)) && p.isQuiet() {
+				break
+			}
+			p.agree(t)
+		}
+		if p.isQuiet() && p.areOpened() {
+			opened++
+		}
+	}
+	if opened < 1000 {
+		t.Errorf("only %d were opened", opened)
+	}
+}
+
+// Behind losses, too: what is lost is asked for again, as long as there are tries.
+func TestP1106BehindLosses(t *testing.T) {
+	r := chance{rand.New(rand.NewPCG(11, 8))}
+	s := setup()
+	s.Configure, s.Fails, s.Wait = 20, 0, 3 // with Fails naks lost what must be there would be rejected
+	s.Peer = append(s.Peer, api.Rule{Type: 5, Len: 2, Min: 0, Max: 100, Suggest: "\x00\x09"}, api.Rule{Type: 9, Len: 1, Min: 'a', Max: 'y', Suggest: "b"})
+	for range 300 {
+		p := pair{ends: [2]*Neg{made(t, s), made(t, s)}}
+		p.do(api.Open)
+		p.do(api.Up)
+		for range 20 { // steps in which things get lost
+			to := r.IntN(2)
+			if r.IntN(2) == 0 && len(p.ways[to]) > 0 {
+				p.ways[to] = p.ways[to][1:]
+			}
+			p.deliver(to)
+			p.send(to, p.ends[to].Tick())
+		}
+		for range 200 {
+			p.settle(t)
+			p.agree(t)
+			for i, n := range p.ends {
+				p.send(i, n.Tick())
+			}
+		}
+		p.settle(t)
+		if !p.areOpened() {
+			t.Fatalf("they are %s and %s", states[p.ends[0].State()], states[p.ends[1].State()])
+		}
+		p.agree(t)
+	}
+}
+
+// Packets open only what waits for just that: AckSent by the ack of the last request, AckRcvd by a good request.
+func TestP1106NoPacketOpens(t *testing.T) {
+	for _, h := range everyHearing() {
+		for state, name := range states {
+			n := in(t, setup(), state)
+			n.Take(h.came)
+			may := state == api.AckSent && h.event == api.Rca || state == api.AckRcvd && h.event == api.RcrPlus
+			if state != api.Opened && (n.State() == api.Opened) != may {
+				t.Errorf("%s: %s: State() = %d", name, h.what, n.State())
+			}
+		}
+	}
+}
+
+// Where this side did not open, or ends, no row of packets does, whatever they are.
+func TestP1106NoPacketsOpen(t *testing.T) {
+	r := chance{rand.New(rand.NewPCG(11, 9))}
+	for _, state := range []int{api.Initial, api.Starting, api.Closed, api.Closing, api.Stopping} {
+		for range 50 {
+			n := in(t, setup(), state)
+			ups, _ := n.Ups()
+			for range 100 {
+				id := []int{1, 1, 0, r.IntN(256)}[r.IntN(4)]
+				switch r.IntN(4) {
+				case 0:
+					n.Take(pk(api.ConfReq, id))
+				case 1:
+					n.Take(pk(api.ConfAck, id, ask()...))
+				case 2:
+					n.Take(pk(1+r.IntN(4), id, r.options()...))
+				default:
+					code := r.IntN(20)
+					if state == api.Stopping && code == api.TermAck {
+						continue // that makes it Stopped, which a request may begin again
+					}
+					if state == api.Stopping && code == api.CodeRej {
+						continue
+					}
+					n.Take(bare(code, id, r.value()))
+				}
+			}
+			if got, _ := n.Ups(); got != ups || n.State() == api.Opened {
+				t.Fatalf("%s: State() = %d behind some packets", states[state], n.State())
+			}
+		}
+	}
+}

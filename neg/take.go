@@ -1,0 +1,115 @@
+package neg
+
+import (
+	"slices"
+
+	"tollgate/api"
+	"tollgate/opts"
+)
+
+// Take takes a packet; what is sent.
+func (n *Neg) Take(p api.Packet) []api.Packet {
+	if n.isNone() {
+		return nil
+	}
+	switch p.Code {
+	case api.ConfReq:
+		return n.takeRequest(p)
+	case api.ConfAck, api.ConfNak, api.ConfRej:
+		if n.begun && p.Id == n.last {
+			return n.takeAnswer(p)
+		}
+		return nil
+	case api.TermReq:
+		return n.happen(api.Rtr, cause{came: p})
+	case api.TermAck:
+		return n.happen(api.Rta, cause{came: p})
+	case api.CodeRej:
+		return n.takeReject(p)
+	}
+	return n.happen(api.Ruc, cause{came: p})
+}
+
+func (n *Neg) takeRequest(p api.Packet) []api.Packet {
+	code, l := n.peer.judge(p.Options)
+	c := cause{came: p, answer: api.Packet{Code: code, Id: p.Id, Options: l}}
+	if code != api.ConfAck {
+		return n.happen(api.RcrMinus, c)
+	}
+	n.naks = 0
+	return n.happen(api.RcrPlus, c)
+}
+
+// takeAnswer takes what the peer says to the last request.
+func (n *Neg) takeAnswer(p api.Packet) []api.Packet {
+	switch p.Code {
+	case api.ConfAck:
+		return n.takeAck(p)
+	case api.ConfNak:
+		for _, o := range p.Options {
+			n.change(o)
+		}
+		return n.happen(api.Rcn, cause{came: p})
+	}
+	return n.takeRej(p)
+}
+
+func (n *Neg) takeAck(p api.Packet) []api.Packet {
+	if !opts.Same(p.Options, n.request) {
+		return nil
+	}
+	n.mine = slices.Clone(p.Options)
+	return n.happen(api.Rca, cause{came: p})
+}
+
+// change lets the request have what the peer would rather see there, or else no such option, if that may go.
+func (n *Neg) change(o api.Option) {
+	i := slices.IndexFunc(n.request, func(r api.Option) bool { return r.Type == o.Type })
+	if i < 0 {
+		return
+	}
+	if n.own.fits(o) {
+		n.request[i].Value = o.Value
+	} else if !n.isMust(o) {
+		n.request = slices.Delete(n.request, i, i+1)
+	}
+}
+
+func (n *Neg) takeRej(p api.Packet) []api.Packet {
+	left, ok := without(n.request, p.Options)
+	if !ok {
+		return nil
+	}
+	if slices.ContainsFunc(p.Options, n.isMust) {
+		return n.happen(api.RxjMinus, cause{came: p})
+	}
+	n.request = left
+	return n.happen(api.Rcn, cause{came: p})
+}
+
+// without tells a request without some of its options; false, if they do not stand in it, in that order.
+func without(request, l []api.Option) ([]api.Option, bool) {
+	var left []api.Option
+	for _, o := range request {
+		if len(l) > 0 && l[0] == o {
+			l = l[1:]
+		} else {
+			left = append(left, o)
+		}
+	}
+	return left, len(l) == 0
+}
+
+// isMust tells whether it can't be done without an option.
+func (n *Neg) isMust(o api.Option) bool { return slices.Contains(n.must, o.Type) }
+
+// takeReject takes that a code is not known to the peer; without the codes of negotiation itself it can't go on.
+func (n *Neg) takeReject(p api.Packet) []api.Packet {
+	if p.Data == "" {
+		return nil
+	}
+	if code := int(p.Data[0]); code >= api.ConfReq && code <= api.CodeRej {
+		return n.happen(api.RxjMinus, cause{came: p})
+	}
+	return n.happen(api.RxjPlus, cause{came: p})
+}
