@@ -1,4 +1,4 @@
-// Package byhand lays frames into bytes by another hand than the program's, for its tests.
+// Package byhand lays frames into bytes by another hand than the program's, and lets two ends hear each other, for its tests.
 package byhand
 
 import (

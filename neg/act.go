@@ -9,8 +9,11 @@ import (
 
 const mostReject = api.MaxData - 12 // so that what is rejected has room behind a head of its own
 
-// cause is the packet by which something happens, and the answer to it, if it is a request.
-type cause struct{ came, answer api.Packet }
+// cause is the packet by which something happens; if it is a request, also the answer to it, and the rules that it was judged by.
+type cause struct {
+	came, answer api.Packet
+	rules        book
+}
 
 // unasked is the cause where no packet came: what would be answered has this end's Id then.
 func (n *Neg) unasked() cause { return cause{came: api.Packet{Id: n.id}} }
@@ -51,15 +54,18 @@ func (n *Neg) count(action int) {
 	}
 }
 
-// nextId tells an Id that was not used just now; the conversion lets it begin again behind 255.
-func (n *Neg) nextId() int {
+// NextId takes the next Id, for a layer that says more than what is negotiated; the conversion lets it begin again behind 255.
+func (n *Neg) NextId() int {
+	if n.isNone() {
+		return 0
+	}
 	n.id = int(byte(n.id + 1))
 	return n.id
 }
 
 func (n *Neg) ask() api.Packet {
 	n.ticks = 0
-	n.last, n.begun = n.nextId(), true
+	n.last, n.begun = n.NextId(), true
 	return api.Packet{Code: api.ConfReq, Id: n.last, Options: slices.Clone(n.request)}
 }
 
@@ -77,16 +83,16 @@ func (n *Neg) refuse(c cause) api.Packet {
 		n.naks++
 		return c.answer
 	}
-	return api.Packet{Code: api.ConfRej, Id: c.came.Id, Options: n.peer.misfits(c.came.Options)}
+	return api.Packet{Code: api.ConfRej, Id: c.came.Id, Options: c.rules.misfits(c.came.Options)}
 }
 
 func (n *Neg) end() api.Packet {
 	n.ticks = 0
-	return api.Packet{Code: api.TermReq, Id: n.nextId()}
+	return api.Packet{Code: api.TermReq, Id: n.NextId()}
 }
 
 // reject tells that a packet's code is not known; of a packet that no bytes can be it has none.
 func (n *Neg) reject(came api.Packet) api.Packet {
 	b, _ := opts.Put(came)
-	return api.Packet{Code: api.CodeRej, Id: n.nextId(), Data: b[:min(len(b), mostReject)]}
+	return api.Packet{Code: api.CodeRej, Id: n.NextId(), Data: b[:min(len(b), mostReject)]}
 }

@@ -2,85 +2,61 @@ package neg
 
 import (
 	"math/rand/v2"
-	"slices"
 	"testing"
 
 	"tollgate/api"
+	"tollgate/byhand"
 )
 
 // P1106: what follows from the others.
 
-// pair is two ends, and what is on its way to each of them.
-type pair struct {
-	ends [2]*Neg
-	ways [2][]api.Packet
-}
+// pair is two ends that hear each other.
+type pair struct{ byhand.Pair[*Neg] }
 
-// send lays packets on the way from an end to the other one.
-func (p *pair) send(from int, l []api.Packet) { p.ways[1-from] = append(p.ways[1-from], l...) }
-
-func (p *pair) do(event int) {
-	for i, n := range p.ends {
-		p.send(i, n.Do(event))
-	}
-}
-
-// deliver hands the first packet on the way to an end over to it; false, if there is none.
-func (p *pair) deliver(to int) bool {
-	if len(p.ways[to]) == 0 {
-		return false
-	}
-	first := p.ways[to][0]
-	p.ways[to] = p.ways[to][1:]
-	p.send(to, p.ends[to].Take(first))
-	return true
+// between makes a pair, of which each opens.
+func between(one, other *Neg) *pair {
+	p := &pair{byhand.Pair[*Neg]{Ends: [2]*Neg{one, other}}}
+	p.Do(api.Open)
+	p.Do(api.Up)
+	return p
 }
 
 // settle delivers all that is on its way, and what that brings about.
 func (p *pair) settle(t *testing.T) {
 	t.Helper()
-	for range 1000 {
-		if !p.deliver(0) && !p.deliver(1) {
-			return
-		}
+	if !p.Settle() {
+		t.Fatalf("they never end: %v", p.Ways)
 	}
-	t.Fatalf("they never end: %v", p.ways)
 }
 
-func (p *pair) isQuiet() bool { return len(p.ways[0])+len(p.ways[1]) == 0 }
-
-func (p *pair) areOpened() bool {
-	return p.ends[0].State() == api.Opened && p.ends[1].State() == api.Opened
+// opened holds that both are Opened.
+func (p *pair) opened(t *testing.T) {
+	t.Helper()
+	if !p.AreOpened() {
+		t.Fatalf("they are %s and %s", states[p.Ends[0].State()], states[p.Ends[1].State()])
+	}
 }
 
 // agree holds that what is mine at the one is theirs at the other, if both are Opened and all that was sent came.
 func (p *pair) agree(t *testing.T) {
 	t.Helper()
-	if !p.isQuiet() || !p.areOpened() {
-		return
-	}
-	for i, n := range p.ends {
-		if mine, theirs := n.Mine(), p.ends[1-i].Theirs(); !slices.Equal(mine, theirs) {
-			t.Fatalf("mine at %d is %v, theirs at the other is %v", i, mine, theirs)
-		}
+	if p.IsQuiet() && p.AreOpened() && !p.Agree() {
+		one, other := p.Ends[0], p.Ends[1]
+		t.Fatalf("mine is %v at the one, %v at the other; theirs %v and %v", one.Mine(), other.Mine(), one.Theirs(), other.Theirs())
 	}
 }
 
 func TestP1106TwoEnds(t *testing.T) {
 	a := setup()
 	a.Peer = append(a.Peer, api.Rule{Type: 5, Len: 2, Min: 0, Max: 100, Suggest: "\x00\x09"}, api.Rule{Type: 9, Len: 1, Min: 'a', Max: 'y', Suggest: "b"})
-	p := pair{ends: [2]*Neg{made(t, a), made(t, a)}}
-	p.do(api.Open)
-	p.do(api.Up)
+	p := between(made(t, a), made(t, a))
 	p.settle(t)
-	if !p.areOpened() {
-		t.Fatalf("they are %s and %s", states[p.ends[0].State()], states[p.ends[1].State()])
-	}
+	p.opened(t)
 	p.agree(t)
 	want := []api.Option{opt(1, "\x04\x00"), opt(5, "\x00\x09"), opt(9, "b")} // 7 was rejected
-	for i, n := range p.ends {
+	for _, n := range p.Ends {
 		has(t, "agreed", n, want, want)
-		came(t, "agreed", p.ends[i], 1, 0)
+		came(t, "agreed", n, 1, 0)
 	}
 }
 
@@ -89,32 +65,27 @@ func TestP1106AnyTwoEnds(t *testing.T) {
 	r := chance{rand.New(rand.NewPCG(11, 7))}
 	opened := 0
 	for range 4000 {
-		p := pair{}
-		for i := range p.ends {
-			p.ends[i] = made(t, r.setup())
-		}
-		p.do(api.Open)
-		p.do(api.Up)
+		p := between(made(t, r.setup()), made(t, r.setup()))
 		for range 150 {
 			switch k := r.IntN(40); {
 			case k < 36:
-				p.deliver(r.IntN(2))
+				p.Deliver(r.IntN(2))
 			case k < 39:
 				i := r.IntN(2)
-				p.send(i, p.ends[i].Tick())
+				p.Send(i, p.Ends[i].Tick())
 			case r.IntN(8) == 0: // one of them begins again
 				i := r.IntN(2)
-				p.send(i, p.ends[i].Take(bare(api.TermAck, 0, "")))
+				p.Send(i, p.Ends[i].Take(bare(api.TermAck, 0, "")))
 			}
 			p.agree(t)
 		}
 		for range 400 {
-			if !p.deliver(r.IntN(2)) && p.isQuiet() {
+			if !p.Deliver(r.IntN(2)) && p.IsQuiet() {
 				break
 			}
 			p.agree(t)
 		}
-		if p.isQuiet() && p.areOpened() {
+		if p.IsQuiet() && p.AreOpened() {
 			opened++
 		}
 	}
@@ -130,28 +101,22 @@ func TestP1106BehindLosses(t *testing.T) {
 	s.Configure, s.Fails, s.Wait = 20, 0, 3 // with Fails naks lost what must be there would be rejected
 	s.Peer = append(s.Peer, api.Rule{Type: 5, Len: 2, Min: 0, Max: 100, Suggest: "\x00\x09"}, api.Rule{Type: 9, Len: 1, Min: 'a', Max: 'y', Suggest: "b"})
 	for range 300 {
-		p := pair{ends: [2]*Neg{made(t, s), made(t, s)}}
-		p.do(api.Open)
-		p.do(api.Up)
+		p := between(made(t, s), made(t, s))
 		for range 20 { // steps in which things get lost
 			to := r.IntN(2)
-			if r.IntN(2) == 0 && len(p.ways[to]) > 0 {
-				p.ways[to] = p.ways[to][1:]
+			if r.IntN(2) == 0 {
+				p.Lose(to)
 			}
-			p.deliver(to)
-			p.send(to, p.ends[to].Tick())
+			p.Deliver(to)
+			p.Send(to, p.Ends[to].Tick())
 		}
 		for range 200 {
 			p.settle(t)
 			p.agree(t)
-			for i, n := range p.ends {
-				p.send(i, n.Tick())
-			}
+			p.Tick()
 		}
 		p.settle(t)
-		if !p.areOpened() {
-			t.Fatalf("they are %s and %s", states[p.ends[0].State()], states[p.ends[1].State()])
-		}
+		p.opened(t)
 		p.agree(t)
 	}
 }

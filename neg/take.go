@@ -14,12 +14,14 @@ func (n *Neg) Take(p api.Packet) []api.Packet {
 	}
 	switch p.Code {
 	case api.ConfReq:
-		return n.takeRequest(p)
-	case api.ConfAck, api.ConfNak, api.ConfRej:
-		if n.begun && p.Id == n.last {
-			return n.takeAnswer(p)
-		}
-		return nil
+		return n.takeRequest(p, n.peer)
+	case api.ConfAck:
+		return n.takeAck(p)
+	case api.ConfNak:
+		out, _ := n.TakeNak(p)
+		return out
+	case api.ConfRej:
+		return n.takeRej(p)
 	case api.TermReq:
 		return n.happen(api.Rtr, cause{came: p})
 	case api.TermAck:
@@ -30,9 +32,17 @@ func (n *Neg) Take(p api.Packet) []api.Packet {
 	return n.happen(api.Ruc, cause{came: p})
 }
 
-func (n *Neg) takeRequest(p api.Packet) []api.Packet {
-	code, l := n.peer.judge(p.Options)
-	c := cause{came: p, answer: api.Packet{Code: code, Id: p.Id, Options: l}}
+// TakeRequest takes a request by other rules than the Setup's, for a layer whose rules hang on what is asked for; what is sent.
+func (n *Neg) TakeRequest(p api.Packet, rules []api.Rule) []api.Packet {
+	if n.isNone() {
+		return nil
+	}
+	return n.takeRequest(p, byType(rules))
+}
+
+func (n *Neg) takeRequest(p api.Packet, rules book) []api.Packet {
+	code, l := rules.judge(p.Options)
+	c := cause{came: p, answer: api.Packet{Code: code, Id: p.Id, Options: l}, rules: rules}
 	if code != api.ConfAck {
 		return n.happen(api.RcrMinus, c)
 	}
@@ -40,44 +50,50 @@ func (n *Neg) takeRequest(p api.Packet) []api.Packet {
 	return n.happen(api.RcrPlus, c)
 }
 
-// takeAnswer takes what the peer says to the last request.
-func (n *Neg) takeAnswer(p api.Packet) []api.Packet {
-	switch p.Code {
-	case api.ConfAck:
-		return n.takeAck(p)
-	case api.ConfNak:
-		for _, o := range p.Options {
-			n.change(o)
-		}
-		return n.happen(api.Rcn, cause{came: p})
-	}
-	return n.takeRej(p)
-}
+// isHeard tells whether a packet answers the last request: what answers another one says nothing any more.
+func (n *Neg) isHeard(p api.Packet) bool { return n.begun && p.Id == n.last }
 
 func (n *Neg) takeAck(p api.Packet) []api.Packet {
-	if !opts.Same(p.Options, n.request) {
+	if !n.isHeard(p) || !opts.Same(p.Options, n.request) {
 		return nil
 	}
 	n.mine = slices.Clone(p.Options)
 	return n.happen(api.Rca, cause{came: p})
 }
 
-// change lets the request have what the peer would rather see there, or else no such option, if that may go.
-func (n *Neg) change(o api.Option) {
+// TakeNak takes a nak; what is sent, and which of its options the request took on.
+func (n *Neg) TakeNak(p api.Packet) ([]api.Packet, []api.Option) {
+	if n.isNone() || !n.isHeard(p) {
+		return nil, nil
+	}
+	var taken []api.Option
+	for _, o := range p.Options {
+		if n.change(o) {
+			taken = append(taken, o)
+		}
+	}
+	return n.happen(api.Rcn, cause{came: p}), taken
+}
+
+// change lets the request have what the peer would rather see there, or else no such option, if that may go; true, if it has it.
+func (n *Neg) change(o api.Option) bool {
 	i := slices.IndexFunc(n.request, func(r api.Option) bool { return r.Type == o.Type })
 	if i < 0 {
-		return
+		return false
 	}
 	if n.own.fits(o) {
 		n.request[i].Value = o.Value
-	} else if !n.isMust(o) {
+		return true
+	}
+	if !n.isMust(o) {
 		n.request = slices.Delete(n.request, i, i+1)
 	}
+	return false
 }
 
 func (n *Neg) takeRej(p api.Packet) []api.Packet {
 	left, ok := without(n.request, p.Options)
-	if !ok {
+	if !ok || !n.isHeard(p) {
 		return nil
 	}
 	if slices.ContainsFunc(p.Options, n.isMust) {
