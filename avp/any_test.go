@@ -29,13 +29,13 @@ func laid(l []api.Avp, secret string) (string, api.Errno) {
 		case len(a.Value) > 1000:
 			return "", api.ErrLong
 		case !a.Hidden:
-			out += raw(flags, a.Vendor, a.Type, a.Value)
+			out += byhand.Value(flags, a.Vendor, a.Type, a.Value)
 		case secret == "":
 			return "", api.ErrAuth
 		case v < 0:
 			return "", api.ErrMust
 		default:
-			out += raw(flags+16384, a.Vendor, a.Type, masked(a.Type, secret, l[v].Value, whole(a.Value)))
+			out += byhand.Value(flags+16384, a.Vendor, a.Type, masked(a.Type, secret, l[v].Value, whole(a.Value)))
 		}
 	}
 	if len(out) > mostRoom {

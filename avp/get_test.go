@@ -149,11 +149,11 @@ func TestP1802Length(t *testing.T) {
 }
 
 func TestP1802Long(t *testing.T) {
-	holdBehind(t, "1,006", raw(0, 0, 1, some(1000)), []api.Avp{{Type: 1, Value: some(1000)}}, api.OK)
+	holdBehind(t, "1,006", byhand.Value(0, 0, 1, some(1000)), []api.Avp{{Type: 1, Value: some(1000)}}, api.OK)
 	for n := 1001; n < 1018; n++ { // up to the greatest length that ten bits hold
-		holdBehind(t, "1,007 and more", raw(0, 0, 1, some(n)), nil, api.ErrLong)
-		holdBehind(t, "1,007 and more, Must", raw(32768, 0, 1, some(n)), nil, api.ErrLong)
-		holdBehind(t, "1,007 and more, but not there", raw(0, 0, 1, some(n))[:5+n], nil, api.ErrShort)
+		holdBehind(t, "1,007 and more", byhand.Value(0, 0, 1, some(n)), nil, api.ErrLong)
+		holdBehind(t, "1,007 and more, Must", byhand.Value(32768, 0, 1, some(n)), nil, api.ErrLong)
+		holdBehind(t, "1,007 and more, but not there", byhand.Value(0, 0, 1, some(n))[:5+n], nil, api.ErrShort)
 	}
 	most := covered(7, "s", "v", whole(some(1000)))
 	if len(most) != 1008 {
@@ -162,9 +162,9 @@ func TestP1802Long(t *testing.T) {
 	holdGet(t, "1,008, hidden", openly("v")+most, "s", []api.Avp{vector("v"), hidden(7, some(1000))}, api.OK)
 	holdGet(t, "1,007, hidden", openly("v")+covered(7, "s", "v", whole(some(999))), "s", []api.Avp{vector("v"), hidden(7, some(999))}, api.OK)
 	for n := 1003; n < 1018; n++ {
-		holdBehind(t, "1,009 and more, hidden", openly("v")+raw(16384, 0, 7, masked(7, "s", "v", byhand.Word(n-2)+some(n-2))), nil, api.ErrLong)
+		holdBehind(t, "1,009 and more, hidden", openly("v")+byhand.Value(16384, 0, 7, masked(7, "s", "v", byhand.Word(n-2)+some(n-2))), nil, api.ErrLong)
 	}
-	all, want := strings.Repeat(raw(0, 0, 1, some(1000)), 40), slices.Repeat([]api.Avp{{Type: 1, Value: some(1000)}}, 40)
+	all, want := strings.Repeat(byhand.Value(0, 0, 1, some(1000)), 40), slices.Repeat([]api.Avp{{Type: 1, Value: some(1000)}}, 40)
 	holdGet(t, "40 of the longest", all, "", want, api.OK) // no bound on all bytes is named of Get
 }
 
@@ -198,23 +198,23 @@ func TestP1802Order(t *testing.T) {
 		{"the 41st has bits", bares(40) + "\x04\x06\x00\x00\x00\x01", "s", api.ErrForm},
 		{"the 41st has a length too small", bares(40) + "\x00\x05\x00\x00\x00\x01", "s", api.ErrForm},
 		{"the 41st is not all there", bares(40) + "\x00\x07\x00\x00\x00\x01", "s", api.ErrShort},
-		{"the 41st is too long", bares(40) + raw(0, 0, 1, some(1001)), "s", api.ErrLong},
+		{"the 41st is too long", bares(40) + byhand.Value(0, 0, 1, some(1001)), "s", api.ErrLong},
 		{"the 41st is hidden, no secret", v + bares(39) + closed, "", api.ErrLong},
 		{"the 41st is hidden, no vector", bares(40) + closed, "s", api.ErrLong},
 		{"the 41st is hidden, and broken", v + bares(39) + broken, "s", api.ErrLong},
 		{"behind the 41st there is none", bares(41) + "\x00", "s", api.ErrLong},
 		{"a hidden one, not all there, no secret", v + closed[:len(closed)-1], "", api.ErrShort},
-		{"a hidden one, too long, no secret", v + raw(16384, 0, 7, some(1003)), "", api.ErrLong},
-		{"a hidden one, too long, no vector", raw(16384, 0, 7, some(1003)), "s", api.ErrLong},
+		{"a hidden one, too long, no secret", v + byhand.Value(16384, 0, 7, some(1003)), "", api.ErrLong},
+		{"a hidden one, too long, no vector", byhand.Value(16384, 0, 7, some(1003)), "s", api.ErrLong},
 		{"a hidden one, no secret, no vector", closed, "", api.ErrAuth},
 		{"a hidden one, no secret, broken", v + broken, "", api.ErrAuth},
-		{"a hidden one, no secret, no bytes", v + raw(16384, 0, 7, ""), "", api.ErrAuth},
+		{"a hidden one, no secret, no bytes", v + byhand.Value(16384, 0, 7, ""), "", api.ErrAuth},
 		{"a hidden one, no vector, broken", broken, "s", api.ErrMust},
-		{"a hidden one, no vector, no bytes", raw(16384, 0, 7, ""), "s", api.ErrMust},
+		{"a hidden one, no vector, no bytes", byhand.Value(16384, 0, 7, ""), "s", api.ErrMust},
 		{"value by value: no vector, then short", closed + "\x00", "s", api.ErrMust},
 		{"value by value: no secret, then bits", v + closed + "\x3c\x06\x00\x00\x00\x01", "", api.ErrAuth},
 		{"value by value: broken, then short", v + broken + "\x00", "s", api.ErrForm},
-		{"value by value: too long, then bits", raw(0, 0, 1, some(1001)) + "\x3c\x06\x00\x00\x00\x01", "s", api.ErrLong},
+		{"value by value: too long, then bits", byhand.Value(0, 0, 1, some(1001)) + "\x3c\x06\x00\x00\x00\x01", "s", api.ErrLong},
 		{"value by value: bits, then short", "\x3c\x06\x00\x00\x00\x01\x00", "s", api.ErrForm},
 		{"value by value: good, then no vector, then broken", bares(1) + closed + v + broken, "s", api.ErrMust},
 	} {

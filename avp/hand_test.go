@@ -35,13 +35,8 @@ func vector(value string) api.Avp { return api.Avp{Must: true, Type: 36, Value: 
 // hidden tells a value that is to be hidden.
 func hidden(kind int, value string) api.Avp { return api.Avp{Hidden: true, Type: kind, Value: value} }
 
-// raw tells a value's bytes, whose first two are flags and its length.
-func raw(flags, vendor, kind int, behind string) string {
-	return byhand.Word(flags+6+len(behind)) + byhand.Word(vendor) + byhand.Word(kind) + behind
-}
-
 // openly tells the bytes of vector.
-func openly(value string) string { return raw(32768, 0, 36, value) }
+func openly(value string) string { return byhand.Value(32768, 0, 36, value) }
 
 // masked does what RFC 2661 does to a hidden value, by the library's MD5, byte by byte.
 func masked(kind int, secret, vector, value string) string {
@@ -58,7 +53,7 @@ func masked(kind int, secret, vector, value string) string {
 
 // covered tells the bytes of a hidden value, whatever it has instead of its length and its Value.
 func covered(kind int, secret, vector, shown string) string {
-	return raw(16384, 0, kind, masked(kind, secret, vector, shown))
+	return byhand.Value(16384, 0, kind, masked(kind, secret, vector, shown))
 }
 
 // whole tells a Value with its length ahead.

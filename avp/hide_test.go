@@ -32,20 +32,20 @@ func TestP1801Hidden(t *testing.T) {
 		{"an empty Value", []api.Avp{vector("vec"), hidden(30, "")}, open + covered(30, "s", "vec", "\x00\x00")},
 		{"a Value", []api.Avp{vector("vec"), hidden(30, "x")}, open + covered(30, "s", "vec", "\x00\x01x")},
 		{"of several pieces", []api.Avp{vector("vec"), hidden(30, some(300))}, open + covered(30, "s", "vec", "\x01\x2c"+some(300))},
-		{"Must", []api.Avp{vector("vec"), {Must: true, Hidden: true, Type: 7, Value: "n"}}, open + raw(32768+16384, 0, 7, masked(7, "s", "vec", "\x00\x01n"))},
-		{"of a Vendor", []api.Avp{vector("vec"), {Hidden: true, Vendor: 258, Type: 772, Value: "n"}}, open + raw(16384, 258, 772, masked(772, "s", "vec", "\x00\x01n"))},
+		{"Must", []api.Avp{vector("vec"), {Must: true, Hidden: true, Type: 7, Value: "n"}}, open + byhand.Value(32768+16384, 0, 7, masked(7, "s", "vec", "\x00\x01n"))},
+		{"of a Vendor", []api.Avp{vector("vec"), {Hidden: true, Vendor: 258, Type: 772, Value: "n"}}, open + byhand.Value(16384, 258, 772, masked(772, "s", "vec", "\x00\x01n"))},
 		{"behind an empty vector", []api.Avp{vector(""), hidden(7, "n")}, openly("") + covered(7, "s", "", "\x00\x01n")},
-		{"behind one that is not Must", []api.Avp{{Type: 36, Value: "v"}, hidden(7, "n")}, raw(0, 0, 36, "v") + covered(7, "s", "v", "\x00\x01n")},
+		{"behind one that is not Must", []api.Avp{{Type: 36, Value: "v"}, hidden(7, "n")}, byhand.Value(0, 0, 36, "v") + covered(7, "s", "v", "\x00\x01n")},
 		{"behind a long one", []api.Avp{vector(some(1000)), hidden(7, "n")}, openly(some(1000)) + covered(7, "s", some(1000), "\x00\x01n")},
-		{"not right behind it", []api.Avp{{Type: 1}, vector("v"), {Type: 2, Value: "z"}, hidden(7, "n")}, raw(0, 0, 1, "") + openly("v") + raw(0, 0, 2, "z") + covered(7, "s", "v", "\x00\x01n")},
+		{"not right behind it", []api.Avp{{Type: 1}, vector("v"), {Type: 2, Value: "z"}, hidden(7, "n")}, byhand.Value(0, 0, 1, "") + openly("v") + byhand.Value(0, 0, 2, "z") + covered(7, "s", "v", "\x00\x01n")},
 		{"the last one counts", []api.Avp{vector("one"), vector("two"), hidden(7, "n")}, openly("one") + openly("two") + covered(7, "s", "two", "\x00\x01n")},
 		{"the last one counts, though it is empty", []api.Avp{vector("one"), vector(""), hidden(7, "n")}, openly("one") + openly("") + covered(7, "s", "", "\x00\x01n")},
 		{"the last one ahead, not one behind", []api.Avp{vector("one"), hidden(7, "n"), vector("two")}, openly("one") + covered(7, "s", "one", "\x00\x01n") + openly("two")},
 		{"each by its own", []api.Avp{vector("one"), hidden(7, "n"), vector("two"), hidden(7, "n")}, openly("one") + covered(7, "s", "one", "\x00\x01n") + openly("two") + covered(7, "s", "two", "\x00\x01n")},
 		{"several by one", []api.Avp{vector("v"), hidden(7, "n"), hidden(8, "n")}, openly("v") + covered(7, "s", "v", "\x00\x01n") + covered(8, "s", "v", "\x00\x01n")},
 		{"a hidden vector does not count", []api.Avp{vector("v"), hidden(36, "w"), hidden(7, "n")}, openly("v") + covered(36, "s", "v", "\x00\x01w") + covered(7, "s", "v", "\x00\x01n")},
-		{"one of a Vendor does not count", []api.Avp{vector("v"), {Vendor: 1, Type: 36, Value: "w"}, hidden(7, "n")}, openly("v") + raw(0, 1, 36, "w") + covered(7, "s", "v", "\x00\x01n")},
-		{"one of a Type beside it does not count", []api.Avp{vector("v"), {Type: 35, Value: "w"}, hidden(7, "n")}, openly("v") + raw(0, 0, 35, "w") + covered(7, "s", "v", "\x00\x01n")},
+		{"one of a Vendor does not count", []api.Avp{vector("v"), {Vendor: 1, Type: 36, Value: "w"}, hidden(7, "n")}, openly("v") + byhand.Value(0, 1, 36, "w") + covered(7, "s", "v", "\x00\x01n")},
+		{"one of a Type beside it does not count", []api.Avp{vector("v"), {Type: 35, Value: "w"}, hidden(7, "n")}, openly("v") + byhand.Value(0, 0, 35, "w") + covered(7, "s", "v", "\x00\x01n")},
 	} {
 		holdPut(t, c.what, c.l, "s", c.want, api.OK)
 		holdGet(t, c.what, c.want, "s", c.l, api.OK)
@@ -75,7 +75,7 @@ func TestP1801HiddenMust(t *testing.T) {
 				b += covered(a.Type, "s", "v", whole(a.Value))
 				continue
 			}
-			b += raw(0, a.Vendor, a.Type, a.Value)
+			b += byhand.Value(0, a.Vendor, a.Type, a.Value)
 		}
 		holdGet(t, c.what, b, "s", nil, api.ErrMust)
 		holdGet(t, c.what, b, "", nil, api.ErrAuth)
@@ -135,7 +135,7 @@ func TestP1802HiddenForm(t *testing.T) {
 		{"the most, one more", "\x03\xe9" + some(1000), "", api.ErrForm},
 		{"one more than the most", "\x03\xe9" + some(1001), "", api.ErrLong},
 	} {
-		for _, ahead := range []string{openly("v"), openly("v") + raw(0, 5, 6, "x"), openly("w") + openly("v"), openly("v") + covered(7, "s", "v", "\x00\x01n")} {
+		for _, ahead := range []string{openly("v"), openly("v") + byhand.Value(0, 5, 6, "x"), openly("w") + openly("v"), openly("v") + covered(7, "s", "v", "\x00\x01n")} {
 			l, err := Get(ahead, "s")
 			if err != api.OK {
 				t.Fatalf("Get of %x = %d", ahead, err)
@@ -160,12 +160,12 @@ func TestP1802HiddenOther(t *testing.T) {
 		what, b, secret string
 		good            bool
 	}{
-		{"the same", openly("v") + raw(16384, 0, 7, masked(7, "s", "v", "\x00\x04name")), "s", true},
-		{"another Type", openly("v") + raw(16384, 0, 7, masked(8, "s", "v", "\x00\x04name")), "s", false},
-		{"another vector", openly("v") + raw(16384, 0, 7, masked(7, "s", "w", "\x00\x04name")), "s", false},
-		{"no vector", openly("v") + raw(16384, 0, 7, masked(7, "s", "", "\x00\x04name")), "s", false},
-		{"another secret", openly("v") + raw(16384, 0, 7, masked(7, "t", "v", "\x00\x04name")), "s", false},
-		{"not hidden at all", openly("v") + raw(16384, 0, 7, "\x00\x04name"), "s", false},
+		{"the same", openly("v") + byhand.Value(16384, 0, 7, masked(7, "s", "v", "\x00\x04name")), "s", true},
+		{"another Type", openly("v") + byhand.Value(16384, 0, 7, masked(8, "s", "v", "\x00\x04name")), "s", false},
+		{"another vector", openly("v") + byhand.Value(16384, 0, 7, masked(7, "s", "w", "\x00\x04name")), "s", false},
+		{"no vector", openly("v") + byhand.Value(16384, 0, 7, masked(7, "s", "", "\x00\x04name")), "s", false},
+		{"another secret", openly("v") + byhand.Value(16384, 0, 7, masked(7, "t", "v", "\x00\x04name")), "s", false},
+		{"not hidden at all", openly("v") + byhand.Value(16384, 0, 7, "\x00\x04name"), "s", false},
 	} {
 		if c.good {
 			holdGet(t, c.what, c.b, c.secret, l, api.OK)

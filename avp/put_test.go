@@ -57,9 +57,9 @@ func TestP1801Words(t *testing.T) {
 				a.Must = must
 				holdPut(t, what, []api.Avp{a}, "s", want, err)
 			}
-			hold("a Vendor", api.Avp{Vendor: v, Type: 258, Value: "x"}, raw(flags, v, 258, "x"))
-			hold("a Type", api.Avp{Vendor: 258, Type: v, Value: "x"}, raw(flags, 258, v, "x"))
-			hold("both", api.Avp{Vendor: v, Type: v}, raw(flags, v, v, ""))
+			hold("a Vendor", api.Avp{Vendor: v, Type: 258, Value: "x"}, byhand.Value(flags, v, 258, "x"))
+			hold("a Type", api.Avp{Vendor: 258, Type: v, Value: "x"}, byhand.Value(flags, 258, v, "x"))
+			hold("both", api.Avp{Vendor: v, Type: v}, byhand.Value(flags, v, v, ""))
 		}
 	}
 }
@@ -100,7 +100,7 @@ func TestP1801Room(t *testing.T) {
 		l := of(c...)
 		want := ""
 		for _, a := range l {
-			want += raw(0, 0, 2, a.Value)
+			want += byhand.Value(0, 0, 2, a.Value)
 		}
 		if len(want) != mostRoom {
 			t.Fatalf("%v are %d bytes", c, len(want))

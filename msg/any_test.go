@@ -9,6 +9,7 @@ import (
 
 	"tollgate/api"
 	"tollgate/avp"
+	"tollgate/byhand"
 )
 
 // P1905, and any messages and bytes beside a second way to read and to judge them.
@@ -213,7 +214,7 @@ func TestP1901AnyBytes(t *testing.T) {
 		case 0:
 			b = anyBytes(r, 40)
 		case 1:
-			b = ctl(1, 2, 3, 4, strings.Repeat(raw(0, 0, 1, ""), 39+r.IntN(4)))
+			b = byhand.Ctl(1, 2, 3, 4, strings.Repeat(byhand.Value(0, 0, 1, ""), 39+r.IntN(4)))
 		}
 		b = spoil(r, b)
 		secret := []string{"", "t", "s", "s"}[r.IntN(4)]

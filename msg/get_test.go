@@ -6,6 +6,7 @@ import (
 	"testing"
 
 	"tollgate/api"
+	"tollgate/byhand"
 )
 
 // P1901: Get.
@@ -13,29 +14,29 @@ import (
 // hello tells a message and its bytes.
 func hello() (api.Ctl, string) {
 	c := api.Ctl{Tunnel: 258, Session: 772, Ns: 1286, Nr: 65535, Avps: []api.Avp{num(0, 6), {Vendor: 9, Type: 7, Value: "name"}}}
-	return c, ctl(258, 772, 1286, 65535, raw(32768, 0, 0, "\x00\x06")+raw(0, 9, 7, "name"))
+	return c, byhand.Ctl(258, 772, 1286, 65535, byhand.Value(32768, 0, 0, "\x00\x06")+byhand.Value(0, 9, 7, "name"))
 }
 
 func TestP1901Get(t *testing.T) {
 	c, b := hello()
 	holdGet(t, "a message", b, "", c, api.OK)
 	holdGet(t, "a message, a secret", b, "secret", c, api.OK)
-	holdGet(t, "no values", ctl(0, 0, 0, 0, ""), "", api.Ctl{}, api.OK)
+	holdGet(t, "no values", byhand.Ctl(0, 0, 0, 0, ""), "", api.Ctl{}, api.OK)
 	for _, v := range edges() {
 		if !fits(v) {
 			continue
 		}
-		holdGet(t, "Tunnel", ctl(v, 1, 2, 3, ""), "", api.Ctl{Tunnel: v, Session: 1, Ns: 2, Nr: 3}, api.OK)
-		holdGet(t, "Session", ctl(1, v, 2, 3, ""), "", api.Ctl{Tunnel: 1, Session: v, Ns: 2, Nr: 3}, api.OK)
-		holdGet(t, "Ns", ctl(1, 2, v, 3, ""), "", api.Ctl{Tunnel: 1, Session: 2, Ns: v, Nr: 3}, api.OK)
-		holdGet(t, "Nr", ctl(1, 2, 3, v, ""), "", api.Ctl{Tunnel: 1, Session: 2, Ns: 3, Nr: v}, api.OK)
+		holdGet(t, "Tunnel", byhand.Ctl(v, 1, 2, 3, ""), "", api.Ctl{Tunnel: v, Session: 1, Ns: 2, Nr: 3}, api.OK)
+		holdGet(t, "Session", byhand.Ctl(1, v, 2, 3, ""), "", api.Ctl{Tunnel: 1, Session: v, Ns: 2, Nr: 3}, api.OK)
+		holdGet(t, "Ns", byhand.Ctl(1, 2, v, 3, ""), "", api.Ctl{Tunnel: 1, Session: 2, Ns: v, Nr: 3}, api.OK)
+		holdGet(t, "Nr", byhand.Ctl(1, 2, 3, v, ""), "", api.Ctl{Tunnel: 1, Session: 2, Ns: 3, Nr: v}, api.OK)
 	}
 }
 
 func TestP1901GetShort(t *testing.T) {
 	_, b := hello()
 	for n := range 12 {
-		for _, from := range []string{b, some(12), strings.Repeat("\x00", 12), strings.Repeat("\xff", 12), ctl(0, 0, 0, 0, "")} {
+		for _, from := range []string{b, some(12), strings.Repeat("\x00", 12), strings.Repeat("\xff", 12), byhand.Ctl(0, 0, 0, 0, "")} {
 			for _, size := range []int{0, n, 11, 12, 13, 65535} {
 				holdGet(t, "too few", says(from, size)[:n], "", api.Ctl{}, api.ErrShort)
 			}
@@ -66,8 +67,8 @@ func TestP1901GetFirst(t *testing.T) {
 
 // TestP1901GetLength has each length that a message with three bare values may name.
 func TestP1901GetLength(t *testing.T) {
-	bare := raw(0, 0, 39, "")
-	b := ctl(1, 2, 3, 4, bare+bare+bare)
+	bare := byhand.Value(0, 0, 39, "")
+	b := byhand.Ctl(1, 2, 3, 4, bare+bare+bare)
 	for size := range 65536 {
 		want, err := api.Ctl{}, api.ErrShort // also of a value that is cut off
 		switch {
@@ -88,8 +89,8 @@ func TestP1901GetFilling(t *testing.T) {
 	c, b := hello()
 	for _, f := range fillings() {
 		holdGet(t, "filling", b+f, "", c, api.OK)
-		holdGet(t, "filling behind no values", ctl(1, 2, 3, 4, "")+f, "", api.Ctl{Tunnel: 1, Session: 2, Ns: 3, Nr: 4}, api.OK)
-		holdGet(t, "filling is not read", says(ctl(0, 0, 0, 0, "\x3c\x00"), 12)+f, "", api.Ctl{}, api.OK)
+		holdGet(t, "filling behind no values", byhand.Ctl(1, 2, 3, 4, "")+f, "", api.Ctl{Tunnel: 1, Session: 2, Ns: 3, Nr: 4}, api.OK)
+		holdGet(t, "filling is not read", says(byhand.Ctl(0, 0, 0, 0, "\x3c\x00"), 12)+f, "", api.Ctl{}, api.OK)
 	}
 	for n := range len(b) {
 		holdGet(t, "cut off", b[:n], "", api.Ctl{}, api.ErrShort)
@@ -98,13 +99,13 @@ func TestP1901GetFilling(t *testing.T) {
 
 // TestP1901GetLong has as many bytes as values may have, far more than Put would lay.
 func TestP1901GetLong(t *testing.T) {
-	values := strings.Repeat(raw(0, 0, 1, some(1000)), 40)
+	values := strings.Repeat(byhand.Value(0, 0, 1, some(1000)), 40)
 	want := of(slices.Repeat([]api.Avp{{Type: 1, Value: some(1000)}}, 40)...)
-	holdGet(t, "40 of the longest", ctl(0, 0, 0, 0, values), "", want, api.OK)
-	holdGet(t, "41", ctl(0, 0, 0, 0, values+raw(0, 0, 1, "")), "", api.Ctl{}, api.ErrLong)
-	holdGet(t, "the 41st is filling", says(ctl(0, 0, 0, 0, values+raw(0, 0, 1, "")), 12+len(values)), "", want, api.OK)
-	holdGet(t, "the greatest length", ctl(0, 0, 0, 0, strings.Repeat("\x00", 65535-12)), "", api.Ctl{}, api.ErrForm)
-	holdGet(t, "the greatest length, one byte less", ctl(0, 0, 0, 0, strings.Repeat("\x00", 65535-12))[:65534], "", api.Ctl{}, api.ErrShort)
+	holdGet(t, "40 of the longest", byhand.Ctl(0, 0, 0, 0, values), "", want, api.OK)
+	holdGet(t, "41", byhand.Ctl(0, 0, 0, 0, values+byhand.Value(0, 0, 1, "")), "", api.Ctl{}, api.ErrLong)
+	holdGet(t, "the 41st is filling", says(byhand.Ctl(0, 0, 0, 0, values+byhand.Value(0, 0, 1, "")), 12+len(values)), "", want, api.OK)
+	holdGet(t, "the greatest length", byhand.Ctl(0, 0, 0, 0, strings.Repeat("\x00", 65535-12)), "", api.Ctl{}, api.ErrForm)
+	holdGet(t, "the greatest length, one byte less", byhand.Ctl(0, 0, 0, 0, strings.Repeat("\x00", 65535-12))[:65534], "", api.Ctl{}, api.ErrShort)
 }
 
 // refusedBytes tells bytes of values that avp.Get does not take, and why.
@@ -112,39 +113,39 @@ func refusedBytes() []struct {
 	what, secret, b string
 	err             api.Errno
 } {
-	hidden := raw(16384, 0, 7, "hidden")
-	vector := raw(0, 0, 36, "v")
+	hidden := byhand.Value(16384, 0, 7, "hidden")
+	vector := byhand.Value(0, 0, 36, "v")
 	return []struct {
 		what, secret, b string
 		err             api.Errno
 	}{
 		{"less than a head", "s", "\x00\x06\x00\x00\x00", api.ErrShort},
-		{"one byte behind a value", "s", raw(0, 0, 1, "x") + "\x00", api.ErrShort},
+		{"one byte behind a value", "s", byhand.Value(0, 0, 1, "x") + "\x00", api.ErrShort},
 		{"bits", "s", "\x04\x06\x00\x00\x00\x01", api.ErrForm},
 		{"a length below 6", "s", "\x80\x05\x00\x00\x00\x00", api.ErrForm},
 		{"a value not all there", "s", "\x00\x07\x00\x00\x00\x01", api.ErrShort},
-		{"a Value too long", "s", raw(0, 0, 1, some(1001)), api.ErrLong},
-		{"41 values", "s", strings.Repeat(raw(0, 0, 1, ""), 41), api.ErrLong},
+		{"a Value too long", "s", byhand.Value(0, 0, 1, some(1001)), api.ErrLong},
+		{"41 values", "s", strings.Repeat(byhand.Value(0, 0, 1, ""), 41), api.ErrLong},
 		{"hidden, no secret", "", vector + hidden, api.ErrAuth},
 		{"hidden, no vector", "s", hidden + vector, api.ErrMust},
-		{"hidden, of no bytes", "s", vector + raw(16384, 0, 7, ""), api.ErrForm},
+		{"hidden, of no bytes", "s", vector + byhand.Value(16384, 0, 7, ""), api.ErrForm},
 		{"hidden, another length", "s", vector + hidden, api.ErrForm},
 	}
 }
 
 func TestP1901GetRefused(t *testing.T) {
 	for _, x := range refusedBytes() {
-		b := ctl(1, 2, 3, 4, x.b)
+		b := byhand.Ctl(1, 2, 3, 4, x.b)
 		holdGet(t, x.what, b, x.secret, api.Ctl{}, x.err)
 		holdGet(t, x.what+", with filling", b+"filling", x.secret, api.Ctl{}, x.err)
-		holdGet(t, x.what+", behind a good one", ctl(1, 2, 3, 4, raw(32768, 0, 0, "\x00\x06")+x.b), x.secret, api.Ctl{}, x.err)
+		holdGet(t, x.what+", behind a good one", byhand.Ctl(1, 2, 3, 4, byhand.Value(32768, 0, 0, "\x00\x06")+x.b), x.secret, api.Ctl{}, x.err)
 	}
 }
 
 // TestP1901GetOrder has bytes in which more than one thing is wrong.
 func TestP1901GetOrder(t *testing.T) {
 	for _, x := range refusedBytes() {
-		b := ctl(1, 2, 3, 4, x.b)
+		b := byhand.Ctl(1, 2, 3, 4, x.b)
 		holdGet(t, "too few bytes: "+x.what, b[:11], x.secret, api.Ctl{}, api.ErrShort)
 		holdGet(t, "too few bytes, no such thing: "+x.what, "\x48"+b[1:11], x.secret, api.Ctl{}, api.ErrShort)
 		holdGet(t, "no such thing: "+x.what, "\x48"+b[1:], x.secret, api.Ctl{}, api.ErrForm)

@@ -30,37 +30,18 @@ func some(n int) string {
 	return string(b)
 }
 
-// words tells numbers in two bytes each.
-func words(l ...int) string {
-	out := ""
-	for _, v := range l {
-		out += byhand.Word(v)
-	}
-	return out
-}
-
-// ctl tells the bytes of a control message.
-func ctl(tunnel, session, ns, nr int, values string) string {
-	return "\xc8\x02" + words(12+len(values), tunnel, session, ns, nr) + values
-}
-
 // load tells the bytes of a data message.
 func load(tunnel, session int, data string) string {
-	return "\x40\x02" + words(8+len(data), tunnel, session) + data
+	return "\x40\x02" + byhand.Words(8+len(data), tunnel, session) + data
 }
 
 // seqLoad tells the bytes of one that is numbered.
 func seqLoad(tunnel, session, ns, nr int, data string) string {
-	return "\x48\x02" + words(12+len(data), tunnel, session, ns, nr) + data
+	return "\x48\x02" + byhand.Words(12+len(data), tunnel, session, ns, nr) + data
 }
 
 // says lays another length into a message.
 func says(b string, size int) string { return b[:2] + byhand.Word(size) + b[4:] }
-
-// raw tells a value's bytes.
-func raw(flags, vendor, kind int, value string) string {
-	return words(flags+6+len(value), vendor, kind) + value
-}
 
 // num tells a value of two bytes.
 func num(kind, v int) api.Avp {

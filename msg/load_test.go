@@ -5,6 +5,7 @@ import (
 	"testing"
 
 	"tollgate/api"
+	"tollgate/byhand"
 )
 
 // P1902.
@@ -138,7 +139,7 @@ func TestP1902GetLoadFew(t *testing.T) {
 
 // TestP1902GetLoadFirst has each first byte and each second one.
 func TestP1902GetLoadFirst(t *testing.T) {
-	behind := words(14, 1, 2, 3, 4) + "da"
+	behind := byhand.Words(14, 1, 2, 3, 4) + "da"
 	for v := range 256 {
 		for w := range 256 {
 			want, err := api.Load{}, api.ErrForm
@@ -207,8 +208,8 @@ func TestP1902GetLoadOrder(t *testing.T) {
 		{"11 bytes, numbered, not all there", says(c, 12)[:11], api.ErrShort},
 		{"too short, too much behind", says(long, 7), api.ErrForm},
 		{"too short, too much behind, numbered", says(longSeq, 11), api.ErrForm},
-		{"a control message", ctl(1, 2, 3, 4, ""), api.ErrForm},
-		{"a control message, not all there", says(ctl(1, 2, 3, 4, ""), 13), api.ErrForm},
+		{"a control message", byhand.Ctl(1, 2, 3, 4, ""), api.ErrForm},
+		{"a control message, not all there", says(byhand.Ctl(1, 2, 3, 4, ""), 13), api.ErrForm},
 	} {
 		holdGetLoad(t, x.what, x.b, api.Load{}, x.err)
 	}
@@ -219,7 +220,7 @@ func TestP1902IsCtl(t *testing.T) {
 		t.Error("IsCtl of no bytes")
 	}
 	for v := range 256 {
-		for _, behind := range []string{"", "\x00", "\x02", "\xff", "\x80\x80", ctl(1, 2, 3, 4, ""), load(1, 2, "x"), strings.Repeat("\xff", 2000)} {
+		for _, behind := range []string{"", "\x00", "\x02", "\xff", "\x80\x80", byhand.Ctl(1, 2, 3, 4, ""), load(1, 2, "x"), strings.Repeat("\xff", 2000)} {
 			if got := IsCtl(string([]byte{byte(v)}) + behind); got != (v > 127) {
 				t.Errorf("IsCtl of the byte %d and %.20x = %v", v, behind, got)
 			}

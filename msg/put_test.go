@@ -20,7 +20,7 @@ func holdWords(t *testing.T, what string, l []api.Avp, values string) {
 	t.Helper()
 	for _, v := range edges() {
 		for i, n := range [4][4]int{{v, 2, 3, 4}, {1, v, 3, 4}, {1, 2, v, 4}, {1, 2, 3, v}} {
-			want, err := ctl(n[0], n[1], n[2], n[3], values), api.OK
+			want, err := byhand.Ctl(n[0], n[1], n[2], n[3], values), api.OK
 			if !fits(v) {
 				want, err = "", api.ErrArg
 			}
@@ -50,7 +50,7 @@ func TestP1901PutWords(t *testing.T) {
 func TestP1901PutWordsTogether(t *testing.T) {
 	for _, a := range edges() {
 		for _, b := range edges() {
-			want, err := ctl(a, b, b, a, ""), api.OK
+			want, err := byhand.Ctl(a, b, b, a, ""), api.OK
 			if !fits(a) || !fits(b) {
 				want, err = "", api.ErrArg
 			}
@@ -67,7 +67,7 @@ func TestP1901PutHidden(t *testing.T) {
 	}
 	l := []api.Avp{{Must: true, Type: 36, Value: "vec"}, {Must: true, Hidden: true, Type: 7, Value: "name"}}
 	c := api.Ctl{Tunnel: 258, Session: 772, Ns: 1286, Nr: 1800, Avps: l}
-	b := ctl(258, 772, 1286, 1800, string(values))
+	b := byhand.Ctl(258, 772, 1286, 1800, string(values))
 	holdPut(t, "a hidden value", c, "secret", b, api.OK)
 	holdGet(t, "a hidden value", b, "secret", c, api.OK)
 	holdPut(t, "a hidden value, no secret", c, "", "", api.ErrAuth)
@@ -78,8 +78,8 @@ func TestP1901PutHidden(t *testing.T) {
 // TestP1901PutMost has as many bytes as values may have, and one more.
 func TestP1901PutMost(t *testing.T) {
 	l := []api.Avp{{Type: 7, Value: some(1000)}, {Type: 7, Value: some(476)}}
-	values := raw(0, 0, 7, some(1000)) + raw(0, 0, 7, some(476))
-	b := ctl(1, 2, 3, 4, values)
+	values := byhand.Value(0, 0, 7, some(1000)) + byhand.Value(0, 0, 7, some(476))
+	b := byhand.Ctl(1, 2, 3, 4, values)
 	if len(b) != 1500 {
 		t.Fatalf("the longest message has %d bytes", len(b))
 	}
